@@ -1,0 +1,1 @@
+"""What a few coloured nodes of a graph force."""
