@@ -5,6 +5,8 @@ A graph is a list that has, for each node, its neighbours as bits. A set of node
 
 MOST_NODES = 16
 NOT_AS_TOLD = -22
+NOBODY = 255
+NEVER = 255
 
 
 def has_node(nodes, node):
@@ -47,25 +49,66 @@ def is_graph(near):
     return True
 
 
+def is_as_told(s, near):
+    return is_graph(near) and is_set_of(s, near)
+
+
+def forced_by(node, coloured, near):
+    bare = near[node] & ~coloured
+    if has_node(coloured, node) and has_just_one(bare):
+        return bare
+    return 0
+
+
 def forced_next(coloured, near):
     # All are read off the same colouring, so that who is coloured in a step forces from the next step on.
     found = 0
     for node in range(len(near)):
-        bare = near[node] & ~coloured
-        if has_node(coloured, node) and has_just_one(bare):
-            found = found | bare
+        found = found | forced_by(node, coloured, near)
     return found
+
+
+def colourings(s, near):
+    """The nodes coloured at first, then those coloured behind each step; the last are those of the end."""
+    behind = [s]
+    found = forced_next(s, near)
+    while found != 0:
+        behind.append(behind[-1] | found)
+        found = forced_next(behind[-1], near)
+    return behind
+
+
+def least_forcer(node, coloured, near):
+    for other in range(len(near)):
+        if has_node(forced_by(other, coloured, near), node):
+            return other
+    return NOBODY
+
+
+def step_and_forcer(node, behind, near):
+    if has_node(behind[0], node):
+        return [0, NOBODY]
+    for step in range(1, len(behind)):
+        if has_node(behind[step], node):
+            # Who forced it did so by what was coloured ahead of the step.
+            return [step, least_forcer(node, behind[step - 1], near)]
+    return [NEVER, NOBODY]
 
 
 def forced(s, near):
     """How many nodes are coloured in the end, which, and behind how many steps; or the refusal alone."""
-    if not is_graph(near) or not is_set_of(s, near):
+    if not is_as_told(s, near):
         return [NOT_AS_TOLD]
-    coloured = s
-    steps = 0
-    found = forced_next(coloured, near)
-    while found != 0:
-        coloured = coloured | found
-        steps = steps + 1
-        found = forced_next(coloured, near)
-    return [count_nodes(coloured), coloured, steps]
+    behind = colourings(s, near)
+    return [count_nodes(behind[-1]), behind[-1], len(behind) - 1]
+
+
+def told(s, near):
+    """Behind how many steps, then of each node at which step it was coloured and by whom; or the refusal alone."""
+    if not is_as_told(s, near):
+        return [NOT_AS_TOLD]
+    behind = colourings(s, near)
+    answer = [len(behind) - 1]
+    for node in range(len(near)):
+        answer.extend(step_and_forcer(node, behind, near))
+    return answer

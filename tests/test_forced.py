@@ -1,22 +1,21 @@
 """Promise 1: forced."""
 
-import contextlib
-import io
 import itertools
 import unittest
 
 from forcednodes.forcing import forced
-from graphs import all_graphs, all_joined, bits, forced_by_sets, graph, path, ring, some_graphs
-
-
-class Unchanging(list):
-    """A list that fails when somebody changes it, even if only for a while."""
-
-    def refuse(self, *args, **kwargs):
-        raise AssertionError("what is handed in was changed")
-
-    append = clear = extend = insert = pop = remove = reverse = sort = refuse
-    __setitem__ = __delitem__ = __iadd__ = __imul__ = refuse
+from helper import (
+    AsInterfaceSays,
+    NotAsTold,
+    all_graphs,
+    all_joined,
+    bits,
+    forced_by_sets,
+    graph,
+    path,
+    ring,
+    some_graphs,
+)
 
 
 class Corners(unittest.TestCase):
@@ -121,61 +120,8 @@ class Steps(unittest.TestCase):
         self.assertEqual(forced(bits(1), graph(5, [(0, 1), (1, 2), (3, 4)])), [1, bits(1), 0])
 
 
-class Refusals(unittest.TestCase):
-    def assert_refused(self, s, near):
-        self.assertEqual(forced(s, near), [-22], (s, near))
-
-    def test_no_node_at_all(self):
-        for s in (0, 1, 4294967295):
-            self.assert_refused(s, [])
-
-    def test_more_than_sixteen_nodes(self):
-        for n in range(17, 31):
-            for s in (0, 1, 65535, 4294967295):
-                self.assert_refused(s, [0] * n)
-            self.assert_refused(0, path(16) + [0] * (n - 16))
-            self.assert_refused(0, [65535] * n)
-
-    def test_its_own_neighbour(self):
-        for s in (0, 1):
-            self.assert_refused(s, [1])
-        for n in range(1, 17):
-            for node in range(n):
-                near = path(n)
-                near[node] |= 1 << node
-                self.assert_refused(0, near)
-
-    def test_a_neighbour_that_does_not_have_that_one(self):
-        self.assert_refused(0, [2, 0])
-        self.assert_refused(0, [0, 1])
-        self.assert_refused(0, [2, 4, 1])
-        for n in range(2, 17):
-            for a, b in itertools.permutations(range(n), 2):
-                near = [0] * n
-                near[a] = 1 << b
-                self.assert_refused(1, near)
-
-    def test_a_neighbour_that_is_no_node(self):
-        self.assert_refused(0, [2])
-        self.assert_refused(1, [32768])
-        for n in range(1, 16):
-            for stranger in range(n, 16):
-                for node in (0, n - 1):
-                    near = path(n)
-                    near[node] |= 1 << stranger
-                    self.assert_refused(0, near)
-
-    def test_a_bit_of_no_node(self):
-        for n in range(1, 17):
-            for bit in range(n, 32):
-                self.assert_refused(1 << bit, path(n))
-                self.assert_refused(1 | 1 << bit, path(n))
-            self.assert_refused(4294967295, path(n))
-            self.assert_refused(1 << n, all_joined(n))
-
-    def test_both_at_once(self):
-        self.assert_refused(4294967295, [1])
-        self.assert_refused(2, [2])
+class Refusals(NotAsTold, unittest.TestCase):
+    call = staticmethod(forced)
 
 
 class AgainstAnother(unittest.TestCase):
@@ -203,45 +149,11 @@ class AgainstAnother(unittest.TestCase):
                     self.assert_alike(s, near)
 
 
-class Interface(unittest.TestCase):
-    CALLS = ((bits(0), path(6)), (bits(0, 1), ring(16)), (4294967295, path(3)), (0, []), (1, [1]), (7, [2, 0, 0]))
+class Interface(AsInterfaceSays, unittest.TestCase):
+    call = staticmethod(forced)
 
-    def test_a_list_of_whole_numbers(self):
-        for s, near in self.CALLS:
-            answer = forced(s, near)
-            self.assertIs(type(answer), list)
-            self.assertTrue(all(type(number) is int for number in answer), answer)
-            self.assertEqual(len(answer), 1 if answer[0] < 0 else 3)
-
-    def test_what_is_handed_in_is_not_changed(self):
-        for s, near in self.CALLS:
-            watched = Unchanging(near)
-            forced(s, watched)
-            self.assertEqual(list(watched), near)
-
-    def test_nothing_is_kept(self):
-        first = [forced(s, list(near)) for s, near in self.CALLS]
-        for answer in [forced(s, list(near)) for s, near in self.CALLS]:
-            answer.append(99)
-        for (s, near), answer in reversed(list(zip(self.CALLS, first))):
-            self.assertEqual(forced(s, near), answer)
-            self.assertEqual(forced(s, near), answer)
-
-    def test_the_same_list_with_another_graph_in_it(self):
-        near = path(4)
-        self.assertEqual(forced(1, near), [4, 15, 3])
-        near[:] = ring(4)
-        self.assertEqual(forced(1, near), [1, 1, 0])
-
-    def test_the_arguments_by_name(self):
-        self.assertEqual(forced(near=path(3), s=1), [3, 7, 2])
-
-    def test_it_prints_nothing(self):
-        out, err = io.StringIO(), io.StringIO()
-        with contextlib.redirect_stdout(out), contextlib.redirect_stderr(err):
-            for s, near in self.CALLS:
-                forced(s, near)
-        self.assertEqual(out.getvalue() + err.getvalue(), "")
+    def length(self, near):
+        return 3
 
 
 if __name__ == "__main__":
