@@ -5,6 +5,7 @@ A graph is a list that has, for each node, its neighbours as bits. A set of node
 
 MOST_NODES = 16
 NOT_AS_TOLD = -22
+ALL_IS_COLOURED = -61
 NOBODY = 255
 NEVER = 255
 
@@ -25,6 +26,10 @@ def count_nodes(nodes):
         count = count + (left & 1)
         left = left >> 1
     return count
+
+
+def all_nodes(near):
+    return (1 << len(near)) - 1
 
 
 def is_set_of(nodes, near):
@@ -112,3 +117,13 @@ def told(s, near):
     for node in range(len(near)):
         answer.extend(step_and_forcer(node, behind, near))
     return answer
+
+
+def rest(s, near):
+    """How many nodes aren't coloured in the end, and which; or the refusal alone."""
+    if not is_as_told(s, near):
+        return [NOT_AS_TOLD]
+    left = all_nodes(near) & ~colourings(s, near)[-1]
+    if left == 0:
+        return [ALL_IS_COLOURED]
+    return [count_nodes(left), left]

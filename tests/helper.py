@@ -105,6 +105,25 @@ def told_by_sets(s, near):
     return answer
 
 
+def rest_by_sets(s, near):
+    if not is_as_told_by_sets(s, near):
+        return [-22]
+    left = set(range(len(near))) - members(forced_by_sets(s, near)[1])
+    return [len(left), bits(*left)] if left else [-61]
+
+
+def forts_by_sets(near):
+    """All sets, not empty, of which nobody outside has just one node as a neighbour."""
+    neighbours = [members(number) for number in near]
+    nodes = set(range(len(near)))
+    forts = []
+    for number in range(1, 1 << len(near)):
+        inside = members(number)
+        if all(len(neighbours[node] & inside) != 1 for node in nodes - inside):
+            forts.append(inside)
+    return forts
+
+
 class Unchanging(list):
     """A list that fails when somebody changes it, even if only for a while."""
 
