@@ -100,6 +100,15 @@ def step_and_forcer(node, behind, near):
     return [NEVER, NOBODY]
 
 
+def is_fort(f, near):
+    if f == 0:
+        return False
+    for node in range(len(near)):
+        if not has_node(f, node) and has_just_one(near[node] & f):
+            return False
+    return True
+
+
 def forced(s, near):
     """How many nodes are coloured in the end, which, and behind how many steps; or the refusal alone."""
     if not is_as_told(s, near):
@@ -127,3 +136,13 @@ def rest(s, near):
     if left == 0:
         return [ALL_IS_COLOURED]
     return [count_nodes(left), left]
+
+
+def fort(f, near):
+    """1 if f is a fort, else 0; or the refusal alone."""
+    if not is_as_told(f, near):
+        return [NOT_AS_TOLD]
+    # The answer is a whole number, never True or False.
+    if is_fort(f, near):
+        return [1]
+    return [0]

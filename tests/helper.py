@@ -112,16 +112,21 @@ def rest_by_sets(s, near):
     return [len(left), bits(*left)] if left else [-61]
 
 
+def is_fort_by_sets(inside, near):
+    """Whether it isn't empty, and nobody outside has just one node of it as a neighbour."""
+    outside = set(range(len(near))) - inside
+    return bool(inside) and all(len(members(near[node]) & inside) != 1 for node in outside)
+
+
 def forts_by_sets(near):
-    """All sets, not empty, of which nobody outside has just one node as a neighbour."""
-    neighbours = [members(number) for number in near]
-    nodes = set(range(len(near)))
-    forts = []
-    for number in range(1, 1 << len(near)):
-        inside = members(number)
-        if all(len(neighbours[node] & inside) != 1 for node in nodes - inside):
-            forts.append(inside)
-    return forts
+    sets = [members(number) for number in range(1 << len(near))]
+    return [inside for inside in sets if is_fort_by_sets(inside, near)]
+
+
+def fort_by_sets(f, near):
+    if not is_as_told_by_sets(f, near):
+        return [-22]
+    return [1 if is_fort_by_sets(members(f), near) else 0]
 
 
 class Unchanging(list):
@@ -197,13 +202,20 @@ class NotAsTold:
 
 
 class AsInterfaceSays:
-    """What holds of each call(s, near), whatever it answers; length tells how long an answer is."""
+    """What holds of each call(s, near), whatever it answers; length tells how long an answer is.
 
+    SET is what the call names the set that it is handed.
+    """
+
+    SET = "s"
     CALLS = (
         (bits(0), path(6)),
         (bits(2), path(5)),
         (bits(0, 1), ring(16)),
         (bits(0, 2), ring(16)),
+        (bits(0, 2), ring(4)),
+        (bits(0, 1, 2, 3), path(4)),
+        (0, path(4)),
         (4294967295, path(3)),
         (0, []),
         (1, [1]),
@@ -233,13 +245,13 @@ class AsInterfaceSays:
 
     def test_the_same_list_with_another_graph_in_it(self):
         near = path(4)
-        of_path = self.call(1, near)
+        of_path = self.call(bits(0, 2), near)
         near[:] = ring(4)
-        self.assertEqual(self.call(1, near), self.call(1, ring(4)))
-        self.assertNotEqual(self.call(1, near), of_path)
+        self.assertEqual(self.call(bits(0, 2), near), self.call(bits(0, 2), ring(4)))
+        self.assertNotEqual(self.call(bits(0, 2), near), of_path)
 
     def test_the_arguments_by_name(self):
-        self.assertEqual(self.call(near=path(3), s=2), self.call(2, path(3)))
+        self.assertEqual(self.call(**{"near": path(3), self.SET: 2}), self.call(2, path(3)))
 
     def test_it_prints_nothing(self):
         out, err = io.StringIO(), io.StringIO()
