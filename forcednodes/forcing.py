@@ -4,7 +4,9 @@ A graph is a list that has, for each node, its neighbours as bits. A set of node
 """
 
 MOST_NODES = 16
+MOST_NODES_FOR_FEWEST = 12
 NOT_AS_TOLD = -22
+TOO_MANY_NODES = -28
 ALL_IS_COLOURED = -61
 NOBODY = 255
 NEVER = 255
@@ -109,6 +111,19 @@ def is_fort(f, near):
     return True
 
 
+def colours_all(s, near):
+    return colourings(s, near)[-1] == all_nodes(near)
+
+
+def fewest_that_colour_all(near):
+    best = all_nodes(near)
+    # Lesser numbers come first, so that of sets with as many nodes the first found is the one to keep.
+    for s in range(all_nodes(near)):
+        if count_nodes(s) < count_nodes(best) and colours_all(s, near):
+            best = s
+    return best
+
+
 def forced(s, near):
     """How many nodes are coloured in the end, which, and behind how many steps; or the refusal alone."""
     if not is_as_told(s, near):
@@ -146,3 +161,13 @@ def fort(f, near):
     if is_fort(f, near):
         return [1]
     return [0]
+
+
+def fewest(near):
+    """How many nodes the smallest set has by which all is coloured, and the least such set; or the refusal alone."""
+    if not is_graph(near):
+        return [NOT_AS_TOLD]
+    if len(near) > MOST_NODES_FOR_FEWEST:
+        return [TOO_MANY_NODES]
+    best = fewest_that_colour_all(near)
+    return [count_nodes(best), best]

@@ -129,6 +129,19 @@ def fort_by_sets(f, near):
     return [1 if is_fort_by_sets(members(f), near) else 0]
 
 
+def fewest_by_sets(near):
+    if not is_graph_by_sets(near):
+        return [-22]
+    if len(near) > 12:
+        return [-28]
+    every = (1 << len(near)) - 1
+    for size in range(len(near) + 1):
+        sets = [bits(*chosen) for chosen in itertools.combinations(range(len(near)), size)]
+        found = [s for s in sets if forced_by_sets(s, near)[1] == every]
+        if found:
+            return [size, min(found)]
+
+
 class Unchanging(list):
     """A list that fails when somebody changes it, even if only for a while."""
 
@@ -139,8 +152,8 @@ class Unchanging(list):
     __setitem__ = __delitem__ = __iadd__ = __imul__ = refuse
 
 
-class NotAsTold:
-    """A set and a graph of which one isn't as told: call gives back [-22] alone."""
+class NoGraph:
+    """A graph that isn't as told: call gives back [-22] alone, whatever set is handed in with it."""
 
     def assert_refused(self, s, near):
         self.assertEqual(self.call(s, near), [-22], (s, near))
@@ -187,6 +200,10 @@ class NotAsTold:
                     near[node] |= 1 << stranger
                     self.assert_refused(0, near)
                     self.assert_refused((1 << n) - 1, near)
+
+
+class NotAsTold(NoGraph):
+    """A set and a graph of which one isn't as told: call gives back [-22] alone."""
 
     def test_a_bit_of_no_node(self):
         for n in range(1, 17):

@@ -1,6 +1,7 @@
 """What the interface and the language say of the package's own files."""
 
 import ast
+import builtins
 import pathlib
 import re
 import unittest
@@ -21,6 +22,13 @@ OWN_METHODS = (
 WORDS = (
     "type typing typing_extensions enum Enum IntEnum StrEnum Flag IntFlag Generic Protocol ABC ABCMeta namedtuple "
     "NamedTuple TypedDict TYPE_CHECKING abstractmethod"
+).split()
+# What the package is written with: a part of what the language allows, so that anything beyond it is looked at first.
+FORMS = (
+    "Module FunctionDef arguments arg Expr Assign Return If While For Break Continue Pass "
+    "Constant Name Load Store List Tuple Dict Call Attribute Subscript Slice IfExp ListComp comprehension "
+    "BoolOp And Or UnaryOp Not Invert USub BinOp Add Sub Mult FloorDiv Mod LShift RShift BitAnd BitOr BitXor "
+    "Compare Eq NotEq Lt LtE Gt GtE In NotIn"
 ).split()
 
 
@@ -50,6 +58,48 @@ class Form(unittest.TestCase):
             for node in ast.walk(tree):
                 if isinstance(node, ast.Attribute):
                     self.assertIn(node.attr, OWN_METHODS, name)
+
+    def test_it_is_written_in_few_forms(self):
+        for name, tree in trees():
+            for node in ast.walk(tree):
+                self.assertIn(node.__class__.__name__, FORMS, name)
+                if isinstance(node, ast.Constant):
+                    self.assertIn(node.value.__class__, (int, str, bool, None.__class__), name)
+                if isinstance(node, (ast.For, ast.While)):
+                    self.assertEqual(node.orelse, [], name)
+                if isinstance(node, ast.Assign):
+                    self.assertEqual(len(node.targets), 1, name)
+                if isinstance(node, ast.ListComp):
+                    self.assertEqual(len(node.generators), 1, name)
+                    self.assertLessEqual(len(node.generators[0].ifs), 1, name)
+
+    def test_functions_are_plain(self):
+        for name, tree in trees():
+            for node in ast.walk(tree):
+                if isinstance(node, ast.FunctionDef):
+                    given = node.args
+                    self.assertEqual(given.posonlyargs + given.kwonlyargs + given.defaults, [], (name, node.name))
+                    self.assertEqual((given.vararg, given.kwarg), (None, None), (name, node.name))
+                    self.assertEqual(node.decorator_list, [], (name, node.name))
+
+    def test_names(self):
+        for name, tree in trees():
+            at_top = []
+            for node in ast.walk(tree):
+                if isinstance(node, ast.FunctionDef):
+                    self.assert_free(node.name)
+                elif isinstance(node, ast.arg):
+                    self.assert_free(node.arg)
+                elif isinstance(node, ast.Name) and isinstance(node.ctx, ast.Store):
+                    self.assert_free(node.id)
+            for node in tree.body:
+                at_top += [node.name] if isinstance(node, ast.FunctionDef) else []
+                at_top += [target.id for target in node.targets] if isinstance(node, ast.Assign) else []
+            self.assertEqual(len(at_top), len(set(at_top)), name)
+
+    def assert_free(self, word):
+        self.assertRegex(word, r"\A[A-Za-z][A-Za-z0-9_]*\Z")
+        self.assertFalse(hasattr(builtins, word), word)
 
     def test_sizes(self):
         for file in FILES:
